@@ -1,0 +1,1 @@
+"""Parts: blocks of wood with boxes cut out of them."""
