@@ -1,5 +1,6 @@
 """The calls: each takes a part's text as a list of its bytes and answers a list of whole numbers."""
 
+from cutparts.cells import cells_of, mark_at
 from cutparts.reading import read_text
 
 
@@ -17,7 +18,23 @@ def sizes(text):
         return refusal
     block = reading.block
     cells = cells_of(block, reading.cuts)
-    return [0] + block.size + [block.grain, len(reading.cuts), sum(cells)]
+    return [0] + block.size + [block.grain, len(reading.cuts), sum(cells.marks)]
+
+
+def name(text):
+    reading = read_text(text)
+    refusal = refusal_of(reading)
+    if refusal:
+        return refusal
+    return [len(reading.block.name)] + reading.block.name
+
+
+def has(x, y, z, text):
+    reading = read_text(text)
+    refusal = refusal_of(reading)
+    if refusal:
+        return refusal
+    return [mark_at((x, y, z), cells_of(reading.block, reading.cuts))]
 
 
 def refusal_of(reading):
@@ -26,23 +43,3 @@ def refusal_of(reading):
     if reading.fault is not None:
         return [-6] + list(reading.fault)
     return []
-
-
-# One number a cell, in the order of z, y, x: marking a cell twice is the same as once, so neither
-# the order of the cuts nor what they have in common matters.
-def cells_of(block, cuts):
-    cells = [1] * (block.size[0] * block.size[1] * block.size[2])
-    for cut in cuts:
-        for place in places_of(cut, block):
-            cells[place] = 0
-    return cells
-
-
-def places_of(cut, block):
-    places = []
-    for z in range(cut.corner[2], cut.corner[2] + cut.size[2]):
-        for y in range(cut.corner[1], cut.corner[1] + cut.size[1]):
-            row = (z * block.size[1] + y) * block.size[0]
-            for x in range(cut.corner[0], cut.corner[0] + cut.size[0]):
-                places.append(row + x)
-    return places

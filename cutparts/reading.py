@@ -13,7 +13,8 @@ BEYOND_BLOCK = 4
 
 
 class Block:
-    def __init__(self, size, grain):
+    def __init__(self, name, size, grain):
+        self.name = name
         self.size = size
         self.grain = grain
 
@@ -99,7 +100,7 @@ def block_from(fields):
     grain = grain_from(fields[5])
     if size is None or grain is None:
         return None
-    return Block(size, grain)
+    return Block(fields[1], size, grain)
 
 
 def cut_from(fields):

@@ -1,7 +1,17 @@
-"""What the tests share: texts, and a second, plainer way to judge and count them."""
+"""What the tests share: texts, every call, and a second, plainer way to judge a text and tell its cells."""
 
 import random
 import re
+
+from cutparts import parts
+
+# Every call as one of a text alone; what else it takes is 0.
+CALLS = {
+    "judge": parts.judge,
+    "sizes": parts.sizes,
+    "name": parts.name,
+    "has": lambda text: parts.has(0, 0, 0, text),
+}
 
 NUMBER = "(0|[1-9][0-9]*)"
 PART_LINE = re.compile("part ([a-z0-9]{1,12}) " + " ".join([NUMBER] * 3) + " ([xyz])")
@@ -48,38 +58,57 @@ def reasons(line, number, ended, block, cuts_before):
     return found
 
 
-def expected(text):
-    """(what judge answers, what sizes answers), worked out from the text as a whole."""
-    if len(text) > 16384:
-        return [-2], [-2]
+def lines_of(text):
+    """Each line, and whether it has its line feed."""
     rows = bytes(text).decode("latin-1").split("\n")
     rest = rows.pop()
-    lines = [(row, True) for row in rows] + ([(rest, False)] if rest else [])
+    return [(row, True) for row in rows] + ([(rest, False)] if rest else [])
+
+
+def refusal(text):
+    """What every call answers of a text that is not right; None of one that is."""
+    if len(text) > 16384:
+        return [-2]
+    lines = lines_of(text)
     if not lines:
-        return [-6, 0, 3], [-6, 0, 3]
+        return [-6, 0, 3]
     block = None
     for number, (line, ended) in enumerate(lines):
         found = reasons(line, number, ended, block, number - 1)
         if found:
-            return [-6, number, found[0]], [-6, number, found[0]]
+            return [-6, number, found[0]]
         if number == 0:
             block = formed(line)[1]
-    grain = formed(lines[0][0])[2]
-    cuts = [formed(line) for line, _ in lines[1:]]
-    return [0], [0] + block + [grain, len(cuts), count_left(block, cuts)]
+    return None
 
 
-def count_left(block, cuts):
-    left = 0
-    for x in range(block[0]):
-        for y in range(block[1]):
-            for z in range(block[2]):
-                gone = any(
-                    all(c <= at < c + s for at, c, s in zip((x, y, z), corner, size))
-                    for _, corner, size in cuts
-                )
-                left += not gone
-    return left
+class Told:
+    """What a right text tells: the cells are a set of (x, y, z)."""
+
+    def __init__(self, text):
+        first, *rest = [line for line, _ in lines_of(text)]
+        self.name = list(PART_LINE.fullmatch(first).group(1).encode())
+        self.size, self.grain = formed(first)[1:]
+        self.cuts = [formed(line)[1:] for line in rest]
+        self.cells = {spot for spot in self.spots() if not any(in_cut(spot, cut) for cut in self.cuts)}
+
+    def spots(self):
+        """The cells of the block, by z, then y, then x."""
+        w, d, h = self.size
+        return [(x, y, z) for z in range(h) for y in range(d) for x in range(w)]
+
+
+def in_cut(spot, cut):
+    return all(corner <= at < corner + size for at, corner, size in zip(spot, *cut))
+
+
+def expected(text):
+    """(what judge answers, what sizes answers), worked out from the text as a whole."""
+    refused = refusal(text)
+    if refused:
+        return refused, refused
+    told = Told(text)
+    return [0], [0] + told.size + [told.grain, len(told.cuts), len(told.cells)]
 
 
 def some_cut(rng, block):

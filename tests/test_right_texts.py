@@ -5,7 +5,7 @@ import random
 import unittest
 
 from cutparts.parts import judge, sizes
-from tests.helper import codes, expected, some_lines, text_of
+from tests.helper import expected, some_lines, text_of
 
 
 class RightTexts(unittest.TestCase):
@@ -110,39 +110,6 @@ class ManyTexts(unittest.TestCase):
             after = sizes(text_of(lines[0], *cuts))
             self.assertEqual(after[:5] + after[6:], before[:5] + before[6:], seed)
             self.assertEqual(after[5], 2 * before[5], seed)
-
-
-class HowTheCallsAnswer(unittest.TestCase):
-    texts = (
-        text_of("part a 3 3 3 x", "cut 0 0 0 1 1 1"),
-        text_of("part a 3 3 3 x", "cut 3 0 0 1 1 1"),
-        codes("part a 3 3 3 x"),
-        [],
-        [10] * 16385,
-    )
-
-    def test_what_is_handed_in_stays(self):
-        for text in self.texts:
-            for call in (judge, sizes):
-                before = list(text)
-                call(text)
-                self.assertEqual(text, before)
-
-    def test_a_second_call_answers_as_the_first(self):
-        for text in self.texts:
-            for call in (judge, sizes):
-                first = call(text)
-                kept = list(first)
-                first.append(99)
-                call(text_of("part other 9 9 9 z", "cut 0 0 0 9 9 9"))
-                self.assertEqual(call(text), kept)
-
-    def test_kinds(self):
-        for text in self.texts:
-            for call in (judge, sizes):
-                answer = call(text=text)
-                self.assertIs(type(answer), list)
-                self.assertEqual({type(number) for number in answer}, {int})
 
 
 if __name__ == "__main__":

@@ -1,10 +1,10 @@
-"""Texts that are refused: which line is told, and why."""
+"""Texts that every call refuses: which line is told, and why."""
 
 import random
 import unittest
 
 from cutparts.parts import judge, sizes
-from tests.helper import codes, expected, some_lines, text_of
+from tests.helper import CALLS, codes, expected, some_lines, text_of
 
 PART = "part a 8 8 8 x"
 CUT = "cut 1 1 1 2 2 2"
@@ -12,8 +12,8 @@ CUT = "cut 1 1 1 2 2 2"
 
 class Refused(unittest.TestCase):
     def refused(self, text, answer):
-        self.assertEqual(judge(text), answer)
-        self.assertEqual(sizes(text), answer)
+        for word, call in CALLS.items():
+            self.assertEqual(call(text), answer, word)
 
     def fault(self, lines, number, why):
         self.refused(text_of(*lines), [-6, number, why])
