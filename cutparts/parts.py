@@ -1,6 +1,7 @@
 """The calls: each takes a part's text as a list of its bytes and answers a list of whole numbers."""
 
-from cutparts.cells import cells_of, mark_at
+from cutparts.cells import cells_of, faces_of, mark_at
+from cutparts.joining import joined
 from cutparts.reading import read_text
 
 
@@ -35,6 +36,31 @@ def has(x, y, z, text):
     if refusal:
         return refusal
     return [mark_at((x, y, z), cells_of(reading.block, reading.cuts))]
+
+
+def faces(text):
+    reading = read_text(text)
+    refusal = refusal_of(reading)
+    if refusal:
+        return refusal
+    return [0] + faces_of(cells_of(reading.block, reading.cuts))
+
+
+def pieces(text):
+    reading = read_text(text)
+    refusal = refusal_of(reading)
+    if refusal:
+        return refusal
+    groups = joined(cells_of(reading.block, reading.cuts))
+    answer = [len(groups)]
+    for spots in groups:
+        answer.extend([len(spots)] + list(spots[0]) + [lies_on_bottom(spots)])
+    return answer
+
+
+# The spots are in the order of z first, so none of them is lower than the first.
+def lies_on_bottom(spots):
+    return 1 if spots[0][2] == 0 else 0
 
 
 def refusal_of(reading):

@@ -11,6 +11,8 @@ CALLS = {
     "sizes": parts.sizes,
     "name": parts.name,
     "has": lambda text: parts.has(0, 0, 0, text),
+    "faces": parts.faces,
+    "pieces": parts.pieces,
 }
 
 NUMBER = "(0|[1-9][0-9]*)"
@@ -102,6 +104,35 @@ def in_cut(spot, cut):
     return all(corner <= at < corner + size for at, corner, size in zip(spot, *cut))
 
 
+def drawn(*layers, name="a", grain="x"):
+    """A text of the cells that are drawn: from the bottom up, the rows of each layer from the back to the front."""
+    layers = [layer.split() for layer in layers]
+    d = len(layers[0])
+    lines = ["part %s %d %d %d %s" % (name, len(layers[0][0]), d, len(layers), grain)]
+    for z, rows in enumerate(layers):
+        for number, row in enumerate(rows):
+            for run in re.finditer("[.]+", row):
+                lines.append("cut %d %d %d %d 1 1" % (run.start(), d - 1 - number, z, len(run.group())))
+    return text_of(*lines)
+
+
+def beside(one, other):
+    return sum(abs(a - b) for a, b in zip(one, other)) == 1
+
+
+def by_order(spot):
+    return spot[::-1]
+
+
+def pieces_of(cells):
+    """The pieces, each a list of its cells in order: every cell joins what it is beside."""
+    found = []
+    for cell in sorted(cells, key=by_order):
+        near = [piece for piece in found if any(beside(cell, other) for other in piece)]
+        found = [piece for piece in found if piece not in near] + [sum(near, []) + [cell]]
+    return sorted((sorted(piece, key=by_order) for piece in found), key=lambda piece: by_order(piece[0]))
+
+
 def expected(text):
     """(what judge answers, what sizes answers), worked out from the text as a whole."""
     refused = refusal(text)
@@ -124,3 +155,12 @@ def some_lines(seed):
     block = [rng.randint(1, rng.choice((3, 8, 16))) for _ in range(3)]
     first = "part p%d %d %d %d %s" % (seed, *block, rng.choice("xyz"))
     return [first] + [some_cut(rng, block) for _ in range(rng.randint(0, 8))]
+
+
+def some_drawing(seed):
+    """A text of a small block whose cells are left or cut one by one."""
+    rng = random.Random(seed)
+    w, d, h = [rng.randint(1, limit) for limit in (5, 4, 4)]
+    signs = rng.choice(("#.", "##.", "#..", "###."))
+    rows = ["".join(rng.choice(signs) for _ in range(w)) for _ in range(d * h)]
+    return drawn(*[" ".join(rows[z * d:z * d + d]) for z in range(h)], grain=rng.choice("xyz"))
