@@ -3,6 +3,7 @@
 from cutparts.cells import cells_of, faces_of, mark_at
 from cutparts.joining import joined
 from cutparts.reading import read_text
+from cutparts.showing import slice_rows
 
 
 def judge(text):
@@ -56,6 +57,31 @@ def pieces(text):
     for spots in groups:
         answer.extend([len(spots)] + list(spots[0]) + [lies_on_bottom(spots)])
     return answer
+
+
+def piece(k, text):
+    reading = read_text(text)
+    refusal = refusal_of(reading)
+    if refusal:
+        return refusal
+    groups = joined(cells_of(reading.block, reading.cuts))
+    if k >= len(groups):
+        return [-4]
+    answer = [len(groups[k])]
+    for spot in groups[k]:
+        answer.extend(spot)
+    return answer
+
+
+def slice_of(z, text):
+    reading = read_text(text)
+    refusal = refusal_of(reading)
+    if refusal:
+        return refusal
+    if z >= reading.block.size[2]:
+        return [-4]
+    codes = slice_rows(z, cells_of(reading.block, reading.cuts))
+    return [len(codes)] + codes
 
 
 # The spots are in the order of z first, so none of them is lower than the first.

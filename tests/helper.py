@@ -13,6 +13,8 @@ CALLS = {
     "has": lambda text: parts.has(0, 0, 0, text),
     "faces": parts.faces,
     "pieces": parts.pieces,
+    "piece": lambda text: parts.piece(0, text),
+    "slice": lambda text: parts.slice_of(0, text),
 }
 
 NUMBER = "(0|[1-9][0-9]*)"

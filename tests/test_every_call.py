@@ -47,7 +47,7 @@ class EveryCall(unittest.TestCase):
     def test_a_right_text_is_not_refused(self):
         for word, call in CALLS.items():
             for seed in range(20):
-                self.assertGreaterEqual(call(text_of(*some_lines(seed)))[0], 0, word)
+                self.assertNotIn(call(text_of(*some_lines(seed)))[0], (-2, -6), word)
 
 
 class CutsToldOtherwise(unittest.TestCase):
