@@ -3,7 +3,10 @@
 from cutparts.cells import cells_of, faces_of, mark_at
 from cutparts.joining import joined
 from cutparts.reading import read_text
-from cutparts.showing import slice_rows
+from cutparts.showing import part_bytes, slice_rows
+
+# What is added to the reasons of a second text, so that they differ from the first one's.
+SECOND_TEXT = 16
 
 
 def judge(text):
@@ -84,6 +87,26 @@ def slice_of(z, text):
     return [len(codes)] + codes
 
 
+def bytes_of(text):
+    reading = read_text(text)
+    refusal = refusal_of(reading)
+    if refusal:
+        return refusal
+    codes = part_bytes(reading.block, cells_of(reading.block, reading.cuts))
+    return [len(codes)] + codes
+
+
+def same(text, other):
+    first = read_text(text)
+    second = read_text(other)
+    refusal = refusal_of_two(first, second)
+    if refusal:
+        return refusal
+    cells = cells_of(first.block, first.cuts)
+    others = cells_of(second.block, second.cuts)
+    return [1 if cells.size == others.size and cells.marks == others.marks else 0]
+
+
 # The spots are in the order of z first, so none of them is lower than the first.
 def lies_on_bottom(spots):
     return 1 if spots[0][2] == 0 else 0
@@ -94,4 +117,17 @@ def refusal_of(reading):
         return [-2]
     if reading.fault is not None:
         return [-6] + list(reading.fault)
+    return []
+
+
+def refusal_of_two(first, second):
+    if first.too_long or second.too_long:
+        return [-2]
+    told = []
+    if first.fault is not None:
+        told.extend(first.fault)
+    if second.fault is not None:
+        told.extend([second.fault[0], second.fault[1] + SECOND_TEXT])
+    if told:
+        return [-6] + told
     return []

@@ -15,6 +15,8 @@ CALLS = {
     "pieces": parts.pieces,
     "piece": lambda text: parts.piece(0, text),
     "slice": lambda text: parts.slice_of(0, text),
+    "bytes": parts.bytes_of,
+    "same": lambda text: parts.same(text, text_of("part b 8 8 8 x")),
 }
 
 NUMBER = "(0|[1-9][0-9]*)"

@@ -1,8 +1,10 @@
 """What holds of every call, whatever it tells."""
 
+import inspect
 import random
 import unittest
 
+from cutparts import parts
 from tests.helper import CALLS, codes, some_lines, text_of
 
 TEXTS = (
@@ -14,6 +16,26 @@ TEXTS = (
     [10] * 16384,
     [10] * 16385,
 )
+
+
+INTERFACE = {
+    "judge": ["text"],
+    "sizes": ["text"],
+    "name": ["text"],
+    "has": ["x", "y", "z", "text"],
+    "faces": ["text"],
+    "pieces": ["text"],
+    "piece": ["k", "text"],
+    "slice_of": ["z", "text"],
+    "bytes_of": ["text"],
+    "same": ["text", "other"],
+}
+
+
+class Interface(unittest.TestCase):
+    def test_names_and_arguments(self):
+        for word, arguments in INTERFACE.items():
+            self.assertEqual(list(inspect.signature(getattr(parts, word)).parameters), arguments, word)
 
 
 class EveryCall(unittest.TestCase):

@@ -3,7 +3,7 @@
 import random
 import unittest
 
-from cutparts.parts import judge, sizes
+from cutparts.parts import judge, same, sizes
 from tests.helper import CALLS, codes, expected, some_lines, text_of
 
 PART = "part a 8 8 8 x"
@@ -14,6 +14,8 @@ class Refused(unittest.TestCase):
     def refused(self, text, answer):
         for word, call in CALLS.items():
             self.assertEqual(call(text), answer, word)
+        second = answer if answer == [-2] else [-6, answer[1], answer[2] + 16]
+        self.assertEqual(same(text_of(PART), text), second)
 
     def fault(self, lines, number, why):
         self.refused(text_of(*lines), [-6, number, why])
